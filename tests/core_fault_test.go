@@ -319,8 +319,9 @@ func TestNoFormInAnyState(t *testing.T) {
 	}
 }
 
-func TestStateThatIsNotValid(t *testing.T) {
-	states := map[string]impl.State{
+// wrongStates has for each rule of a valid state one that breaks it.
+func wrongStates() map[string]impl.State {
+	return map[string]impl.State{
 		"Now -1":               {Now: -1},
 		"Now above its limit":  {Now: impl.MaxNow + 1},
 		"Next too great":       changedState(func(s *impl.State) { s.Next = impl.MaxCounter + 1 }),
@@ -334,9 +335,14 @@ func TestStateThatIsNotValid(t *testing.T) {
 		"an owned parent":      changedState(func(s *impl.State) { s.Nodes[0].Owner = 1 }),
 		"no parent":            treeOf("/a", "/b/c"),
 		"falling":              treeOf("/b", "/a"),
+		"a deadline too early": changedState(func(s *impl.State) { s.Sessions[2].Deadline = -1 }),
+		"a deadline too late":  changedState(func(s *impl.State) { s.Sessions[2].Deadline = impl.MaxNow + 16 }),
 		"a full queue":         changedState(func(s *impl.State) { s.Sessions[2].Queue = queueOf("/a", "/a", "/a", "/a", "/a", "/a", "/a", "/a") }),
 	}
-	for name, s := range states {
+}
+
+func TestStateThatIsNotValid(t *testing.T) {
+	for name, s := range wrongStates() {
 		if soundState(s) {
 			t.Fatalf("%s: the test itself is wrong", name)
 		}
