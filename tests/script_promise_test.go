@@ -129,7 +129,7 @@ func TestWhatWasAnsweredIsThere(t *testing.T) {
 func TestSequencersInScriptsIncrease(t *testing.T) {
 	r := rand.New(rand.NewSource(28))
 	locks, epochs := 0, map[uint64]bool{}
-	for i := range 60 {
+	for i := range 25 {
 		x := newScript(r, 500, habits{tick: 1, flush: 10, snap: 2, crash: 4, snapcrash: 3, change: 70})
 		last, epoch := [2]uint64{}, uint64(1)
 		for j, reply := range impl.RunScript([]byte(x.text)) {
